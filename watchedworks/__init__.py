@@ -1,0 +1,1 @@
+"""Watchedworks: which instruments serve."""
