@@ -2,7 +2,7 @@ import copy
 import itertools
 import unittest
 
-from tests.things import nested, raised, strange_things
+from tests.things import Refusing, nested, raised, strange_things
 from watchedworks.errors import BadBars, BadFaults, BadHands, BadSecrets, BadWord, TooMany
 from watchedworks.hands import Hand
 from watchedworks.works import Works
@@ -42,17 +42,7 @@ def all_told(works):
     )
 
 
-class JoinedCase(unittest.TestCase):
-    def refuses(self, error_class, kept, call, *places):
-        error = raised(call, *places)
-        self.assertIs(error.__class__, error_class)
-        told, = vars(error).values()
-        if told is not kept:
-            self.assertIs(told.__class__, kept.__class__)
-            self.assertEqual(told, kept)
-
-
-class Equal(JoinedCase):
+class Equal(Refusing):
     """[13] when works are equal."""
 
     def equal(self, one, other):
@@ -111,7 +101,7 @@ class Equal(JoinedCase):
             self.unequal(works, thing)
 
 
-class Added(JoinedCase):
+class Added(Refusing):
     """[13] the works of two works."""
 
     def test_all_of_both(self):
@@ -231,7 +221,7 @@ class Added(JoinedCase):
         self.assertIsNone(raised(lambda: one + other("fghij", 0, "", "u")))
 
 
-class Renamed(JoinedCase):
+class Renamed(Refusing):
     """[13] a works with other words."""
 
     def test_all_that_has_words(self):

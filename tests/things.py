@@ -1,5 +1,7 @@
 """What several tests use: things of many kinds, and a look at what a call raises."""
 
+import unittest
+
 from watchedworks.errors import BadStart, TooMany, WorksError
 from watchedworks.hands import Hand
 from watchedworks.works import Works
@@ -45,3 +47,14 @@ def raised(call, *places, **names):
     except WorksError as error:
         return error
     return None
+
+
+class Refusing(unittest.TestCase):
+    def refuses(self, error_class, kept, call, *places, **names):
+        """The call raises this error, which keeps just this, or a thing that is equal and of the same class."""
+        error = raised(call, *places, **names)
+        self.assertIs(error.__class__, error_class)
+        told, = vars(error).values()
+        if told is not kept:
+            self.assertIs(told.__class__, kept.__class__)
+            self.assertEqual(told, kept)
