@@ -6,6 +6,8 @@ from tests.test_errors import ATTRIBUTES
 
 ERRORS = ["WorksError", "NothingDone", *ATTRIBUTES]
 
+INSTRUMENT = ["name", "post", "words", "cost"]
+
 # Of each class: what its body defines, and which of this are properties.
 CLASSES = {
     "watchedworks.hands": {"Hand": (["__init__", "__eq__"], ["start", "steps", "words"])},
@@ -14,6 +16,25 @@ CLASSES = {
          "fault_of", "renamed"],
         ["hands", "words", "faults", "secrets", "diligent"],
     )},
+    "watchedworks.instruments": {
+        "Sensor": (["__init__", "__eq__"], [*INSTRUMENT, "sights"]), "Lock": (["__init__", "__eq__"], INSTRUMENT),
+    },
+    "watchedworks.boxes": {"Box": (
+        ["__init__", "__eq__", "__len__", "__getitem__", "__or__", "__sub__", "names", "price", "sight", "joint",
+         "holds"], [],
+    )},
+}
+
+FUNCTIONS = {
+    "watchedworks.runs": {
+        "is_run": "(works, thing)", "is_kept_run": "(works, thing)", "end_of": "(works, run)",
+        "words_of": "(works, run)", "way_to": "(works, standing)",
+    },
+    "watchedworks.boxes": {"seen": "(works, box, chosen, post, run)"},
+    "watchedworks.keeping": {
+        "keeps": "(works, box, chosen)", "conflict": "(works, box, chosen)", "keep_paper": "(works, box, chosen)",
+        "is_conflict": "(works, box, chosen, thing)", "is_keep_paper": "(works, box, chosen, thing)",
+    },
 }
 
 
@@ -38,6 +59,9 @@ class Interface(unittest.TestCase):
         expected = {
             ("watchedworks.hands", "Hand"): "(start, steps)",
             ("watchedworks.works", "Works"): "(hands, *, bars=(), faults=None, secrets=None, diligent=())",
+            ("watchedworks.instruments", "Sensor"): "(name, post, sights, cost)",
+            ("watchedworks.instruments", "Lock"): "(name, post, words, cost)",
+            ("watchedworks.boxes", "Box"): "(instruments)",
         }
         for (place, name), arguments in expected.items():
             found = getattr(importlib.import_module(place), name)
@@ -45,13 +69,29 @@ class Interface(unittest.TestCase):
 
     def test_arguments_of_methods(self):
         expected = {
-            "moves": "(self, standing)", "kept_moves": "(self, standing)", "is_barred": "(self, standing)",
-            "is_secret": "(self, name, standing)", "fault_of": "(self, word)", "renamed": "(self, names)",
-            "standings": "(self)", "kept": "(self)",
+            ("works", "Works"): {
+                "moves": "(self, standing)", "kept_moves": "(self, standing)", "is_barred": "(self, standing)",
+                "is_secret": "(self, name, standing)", "fault_of": "(self, word)", "renamed": "(self, names)",
+                "standings": "(self)", "kept": "(self)",
+            },
+            ("boxes", "Box"): {
+                "names": "(self)", "price": "(self, chosen)", "sight": "(self, chosen, post, word)",
+                "joint": "(self, chosen, word)", "holds": "(self, chosen, post)",
+            },
         }
-        works = importlib.import_module("watchedworks.works").Works
-        for name, arguments in expected.items():
-            self.assertEqual(str(inspect.signature(vars(works)[name])), arguments)
+        for (place, name), methods in expected.items():
+            found = getattr(importlib.import_module("watchedworks." + place), name)
+            for method, arguments in methods.items():
+                self.assertEqual(str(inspect.signature(vars(found)[method])), arguments)
+
+    def test_each_function_is_defined_in_its_file(self):
+        for place, functions in FUNCTIONS.items():
+            module = importlib.import_module(place)
+            for name, arguments in functions.items():
+                found = getattr(module, name)
+                self.assertTrue(inspect.isfunction(found), name)
+                self.assertEqual(found.__module__, place)
+                self.assertEqual(str(inspect.signature(found)), arguments)
 
 
 if __name__ == "__main__":

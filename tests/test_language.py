@@ -20,9 +20,9 @@ METHODS = set(
 )
 BARRED_WORDS = set(
     "typing typing_extensions enum Enum IntEnum StrEnum Flag IntFlag Generic Protocol ABC ABCMeta namedtuple"
-    " NamedTuple TypedDict TYPE_CHECKING abstractmethod _wall _WallAttr register mro elements open input law"
-    " version_info with_traceback add_note".split()
+    " NamedTuple TypedDict TYPE_CHECKING abstractmethod Meta _wall _WallAttr".split()
 )
+BARRED_NAMES = set("register mro elements open input law version_info with_traceback add_note".split())
 BARRED_NODES = (ast.Global, ast.AsyncFunctionDef, ast.AsyncFor, ast.AsyncWith, ast.Await, ast.Div)
 EATERS = ("any", "all", "min", "max", "sum", "sorted")
 
@@ -57,6 +57,11 @@ class Language(unittest.TestCase):
             for word in re.findall(r"\w+", path.read_text(encoding="utf-8")):
                 self.assertNotIn(word, BARRED_WORDS, path)
 
+    def test_barred_names(self):
+        for path, node in nodes(ast.AST):
+            for field in ("id", "attr", "arg", "name"):
+                self.assertNotIn(getattr(node, field, None), BARRED_NAMES, path)
+
     def test_imports(self):
         self.assertEqual(nodes(ast.Import), [])
         for path, node in nodes(ast.ImportFrom):
@@ -68,6 +73,51 @@ class Language(unittest.TestCase):
             for name in node.names:
                 self.assertIn(name.name, defined, f"{path}:{node.lineno}")
                 self.assertIsNone(name.asname)
+
+    def test_what_is_imported_is_used(self):
+        for path, tree in trees():
+            used = {node.id for node in ast.walk(tree) if isinstance(node, ast.Name)}
+            for node in tree.body:
+                if isinstance(node, ast.ImportFrom):
+                    self.assertEqual([name.name for name in node.names if name.name not in used], [], path)
+
+    def test_no_two_files_import_from_each_other(self):
+        imported = {
+            path.stem: {node.module.split(".")[1] for node in tree.body if isinstance(node, ast.ImportFrom)}
+            for path, tree in trees()
+        }
+        while imported:
+            free = [name for name in imported if not imported[name] & set(imported)]
+            self.assertNotEqual(free, [], sorted(imported))
+            for name in free:
+                del imported[name]
+
+    def test_no_variable_has_the_name_of_a_class_or_an_import_of_its_file(self):
+        for path, tree in trees():
+            taken = {name.name for node in tree.body if isinstance(node, ast.ImportFrom) for name in node.names}
+            taken |= {node.name for node in tree.body if isinstance(node, ast.ClassDef)}
+            stored = {n.id for n in ast.walk(tree) if isinstance(n, ast.Name) and isinstance(n.ctx, ast.Store)}
+            stored |= {node.arg for node in ast.walk(tree) if isinstance(node, ast.arg)}
+            self.assertEqual(sorted(taken & stored), [], path)
+
+    def test_names_of_properties_and_methods_and_attributes(self):
+        """A property's name is no method's, and in one class no method's name is an attribute's."""
+        properties, methods, loaded = set(), set(), set()
+        for _, node in nodes(ast.ClassDef):
+            own = {one.name for one in node.body if isinstance(one, ast.FunctionDef)}
+            told = {one.name for one in node.body if isinstance(one, ast.FunctionDef) and one.decorator_list}
+            kept = {n.attr for n in ast.walk(node) if isinstance(n, ast.Attribute) and isinstance(n.ctx, ast.Store)}
+            self.assertEqual(own & kept, set(), node.name)
+            properties |= told
+            methods |= own - told
+            loaded |= kept
+        self.assertEqual(properties & methods, set())
+        self.assertEqual(properties & loaded, set())
+
+    def test_a_class_with_items_has_a_way_to_go_through_it(self):
+        for path, node in nodes(ast.ClassDef):
+            own = [one.name for one in node.body if isinstance(one, ast.FunctionDef)]
+            self.assertEqual("__getitem__" in own, "__iter__" in own, path)
 
     def test_statements_and_expressions(self):
         for kind in BARRED_NODES:

@@ -2,8 +2,10 @@
 
 import unittest
 
+from watchedworks.boxes import Box
 from watchedworks.errors import BadStart, TooMany, WorksError
 from watchedworks.hands import Hand
+from watchedworks.instruments import Lock, Sensor
 from watchedworks.works import Works
 
 
@@ -17,6 +19,9 @@ def nested(depth, wrap):
 def strange_things():
     """Things of Python's built-in kinds, some nested 100 deep, and objects of the package."""
     hand = Hand(0, [(0, "a", 1), (1, "b", 0)])
+    works = Works([hand], bars=[{0: 2}], faults={"a": "f"})
+    sensor, lock = Sensor("a", 0, {"a": "b"}, 1), Lock("b", 1, ["a"], 2)
+    box = Box([sensor, lock])
     deep_row = nested(100, lambda thing: [thing])
     deep_tuple = nested(100, lambda thing: (thing,))
     return [
@@ -32,7 +37,8 @@ def strange_things():
         iter([]), (k for k in ()), zip([], []), {0: 1}.items(), ValueError("a"),
         deep_row, deep_tuple, nested(100, lambda thing: {0: thing}), {deep_tuple: deep_row},
         nested(100, lambda thing: frozenset([thing])), [deep_row] * 3, (deep_tuple,) * 3,
-        hand, Works([hand], bars=[{0: 2}], faults={"a": "f"}), WorksError(), TooMany(60), BadStart(hand), Hand, Works,
+        hand, works, WorksError(), TooMany(60), BadStart(hand), Hand, Works, sensor, lock, box,
+        Box, Sensor, [box], (sensor, lock), [works, box], {"a": box},
     ]
 
 

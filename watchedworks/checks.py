@@ -2,7 +2,7 @@
 
 from watchedworks.errors import BadBars, BadDiligent, BadFaults, BadHands, BadSecrets, BadStanding, BadWord
 from watchedworks.hands import Hand
-from watchedworks.kinds import is_index, is_name, is_row, is_row_of, is_state
+from watchedworks.kinds import is_index, is_name, is_row, is_row_of, is_states
 from watchedworks.patterns import agrees, is_pattern, pairs_of
 
 MOST_HANDS = 3
@@ -60,10 +60,7 @@ def check_diligent(diligent, many):
 
 def check_standing(standing, reached):
     """Raise `BadStanding` if the standing is not one of the reached ones, the keys of a dict."""
-    # True equals 1 and 1.0 equals 1: only a look at each state keeps (True,) and (1.0,) apart from (1,).
-    if not isinstance(standing, tuple) or not all([is_state(state) for state in standing]):
-        raise BadStanding(standing)
-    if standing not in reached:
+    if not is_states(standing) or standing not in reached:
         raise BadStanding(standing)
 
 

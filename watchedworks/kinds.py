@@ -1,4 +1,4 @@
-"""What an integer, a row, a name, a state and an index are.
+"""What an integer, a row, a name, a state, an index and a post are.
 
 The things that are asked about may be of any kind: nothing is compared or looked up ahead of a check of its kind.
 """
@@ -28,6 +28,20 @@ def is_name(thing):
 
 def is_state(thing):
     return is_integer(thing) and 0 <= thing <= GREATEST_STATE
+
+
+def is_states(thing):
+    """Whether a thing is a tuple of states, as a standing is."""
+    # True equals 1 and 1.0 equals 1: only a look at each state keeps (True,) and (1.0,) apart from (1,).
+    return isinstance(thing, tuple) and all([is_state(state) for state in thing])
+
+
+def is_tuple_of(thing, many):
+    return isinstance(thing, tuple) and len(thing) == many
+
+
+def is_post(thing):
+    return is_index(thing, 2)
 
 
 def is_index(thing, many):

@@ -31,6 +31,21 @@ def met_standings(start, moves):
     return sorted(met)
 
 
+def ways_from(start, moves):
+    """For each standing that runs from the start meet one with the fewest moves, by a dict from standings to moves."""
+    ways = {start: ()}
+    layer = [start]
+    while layer:
+        behind = []
+        for standing in layer:
+            for move in moves[standing]:
+                if move[1] not in ways:
+                    ways[move[1]] = ways[standing] + (move,)
+                    behind.append(move[1])
+        layer = behind
+    return ways
+
+
 def new_standings(moves, met, waiting):
     """The standings to which the moves lead that are neither met nor waiting, each once."""
     return sorted({behind for _, behind in moves if behind not in met and behind not in waiting})
