@@ -23,8 +23,11 @@ CLASSES = {
         ["__init__", "__eq__", "__len__", "__getitem__", "__or__", "__sub__", "names", "price", "sight", "joint",
          "holds"], [],
     )},
+    "watchedworks.guards": {"Guard": (["__init__", "estimate", "held", "lets", "stopped"], [])},
 }
 
+ASKED = "(works, box, chosen, fault, within)"
+AHEAD = "(works, box, chosen, fault, ahead)"
 FUNCTIONS = {
     "watchedworks.runs": {
         "is_run": "(works, thing)", "is_kept_run": "(works, thing)", "end_of": "(works, run)",
@@ -34,6 +37,16 @@ FUNCTIONS = {
     "watchedworks.keeping": {
         "keeps": "(works, box, chosen)", "conflict": "(works, box, chosen)", "keep_paper": "(works, box, chosen)",
         "is_conflict": "(works, box, chosen, thing)", "is_keep_paper": "(works, box, chosen, thing)",
+    },
+    "watchedworks.telling": {
+        "late": "(works, box, chosen, fault)", "told": ASKED, "untold": ASKED, "tell_paper": ASKED,
+        "is_untold": "(works, box, chosen, fault, within, thing)",
+        "is_tell_paper": "(works, box, chosen, fault, within, thing)",
+    },
+    "watchedworks.foretelling": {
+        "warned": AHEAD, "lead": "(works, box, chosen, fault)", "unwarned": AHEAD, "warn_paper": AHEAD,
+        "is_unwarned": "(works, box, chosen, fault, ahead, thing)",
+        "is_warn_paper": "(works, box, chosen, fault, ahead, thing)", "doomed": "(works, fault)",
     },
 }
 
@@ -62,6 +75,7 @@ class Interface(unittest.TestCase):
             ("watchedworks.instruments", "Sensor"): "(name, post, sights, cost)",
             ("watchedworks.instruments", "Lock"): "(name, post, words, cost)",
             ("watchedworks.boxes", "Box"): "(instruments)",
+            ("watchedworks.guards", "Guard"): "(works, box, chosen)",
         }
         for (place, name), arguments in expected.items():
             found = getattr(importlib.import_module(place), name)
@@ -77,6 +91,10 @@ class Interface(unittest.TestCase):
             ("boxes", "Box"): {
                 "names": "(self)", "price": "(self, chosen)", "sight": "(self, chosen, post, word)",
                 "joint": "(self, chosen, word)", "holds": "(self, chosen, post)",
+            },
+            ("guards", "Guard"): {
+                "estimate": "(self, post, sights)", "held": "(self, post, sights)", "lets": "(self, run)",
+                "stopped": "(self, run)",
             },
         }
         for (place, name), methods in expected.items():

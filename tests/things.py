@@ -4,6 +4,7 @@ import unittest
 
 from watchedworks.boxes import Box
 from watchedworks.errors import BadStart, TooMany, WorksError
+from watchedworks.guards import Guard
 from watchedworks.hands import Hand
 from watchedworks.instruments import Lock, Sensor
 from watchedworks.works import Works
@@ -38,7 +39,7 @@ def strange_things():
         deep_row, deep_tuple, nested(100, lambda thing: {0: thing}), {deep_tuple: deep_row},
         nested(100, lambda thing: frozenset([thing])), [deep_row] * 3, (deep_tuple,) * 3,
         hand, works, WorksError(), TooMany(60), BadStart(hand), Hand, Works, sensor, lock, box,
-        Box, Sensor, [box], (sensor, lock), [works, box], {"a": box},
+        Guard(works, box, ["a"]), Box, Sensor, [box], (sensor, lock), [works, box], {"a": box},
     ]
 
 
