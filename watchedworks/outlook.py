@@ -63,7 +63,8 @@ def doomed_by(moves, plain):
     found = {}
     more = [at for at in moves if moves[at] and not plain[at]]
     while more:
-        found.update({at: True for at in more})
+        for standing in more:
+            found[standing] = True
         more = [
             at for at in moves
             if moves[at] and at not in found and all([move[1] in found for move in plain[at]])
