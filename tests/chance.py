@@ -40,6 +40,25 @@ def some_works(chance, bars=2):
     return Works(**some_parts(chance, bars))
 
 
+def some_whole_parts(chance, bars=1):
+    """The same with secrets and diligent hands."""
+    parts = some_parts(chance, bars)
+    many = len(parts["hands"])
+    return {
+        **parts,
+        "secrets": {name: some_patterns(chance, many) for name in chance.sample(["hot", "low", "wet"], 2)},
+        "diligent": chance.sample(range(many), chance.randrange(many + 1)),
+    }
+
+
+def some_patterns(chance, many):
+    """Patterns of a secret, for so many hands."""
+    return [
+        {at: chance.randrange(3) for at in chance.sample(range(many), chance.choice([1, 1, many]))}
+        for _ in range(chance.choice([1, 1, 2]))
+    ]
+
+
 def some_worn_parts(chance):
     """What a works is made with whose first hand, behind a fault, goes on for a while as it did ahead of it."""
     many = chance.randrange(2, 5)
@@ -65,6 +84,10 @@ def turned(chance, parts):
         [Hand(hand.start, chance.sample(hand.steps, len(hand.steps))) for hand in parts["hands"]],
         bars=tuple(chance.sample(parts["bars"] * 2, 2 * len(parts["bars"]))),
         faults=dict(chance.sample(sorted(parts["faults"].items()), len(parts["faults"]))),
+        secrets={
+            name: chance.sample(patterns, len(patterns)) for name, patterns in reversed(parts.get("secrets", {}).items())
+        },
+        diligent=chance.sample(parts.get("diligent", []), len(parts.get("diligent", []))),
     )
 
 
@@ -93,3 +116,17 @@ def turned_box(chance, box):
 
 def turned_set(chance, chosen):
     return tuple(chance.sample(list(chosen), len(chosen)))
+
+
+def some_wish(chance, works):
+    """A wish of a works that has faults and secrets."""
+    form = chance.choice(["kept", "told", "told", "warned", "warned", "hidden", "hidden", "sure"])
+    if form == "kept":
+        return ("kept",)
+    if form in ("told", "warned"):
+        return (form, chance.choice(works.faults), chance.choice([0, 0, 0, 1, 1, 2, 3, 1000]))
+    if form == "hidden":
+        return (form, chance.choice(works.secrets), chance.random() < 0.5)
+    words = [*works.words, "other"]
+    seen, wanted = [chance.sample(words, min(len(words), chance.choice([0, 1, 1, 2]))) for _ in range(2)]
+    return (form, tuple(sorted(seen)), tuple(sorted(wanted)))

@@ -26,6 +26,10 @@ CLASSES = {
     "watchedworks.guards": {"Guard": (["__init__", "estimate", "held", "lets", "stopped"], [])},
 }
 
+CHOSEN = "(works, box, chosen)"
+SECRET = "(works, box, chosen, secret, *, joint=False)"
+QUESTION = "(works, *, seen=(), wanted)"
+WISH = "(works, box, chosen, wish)"
 ASKED = "(works, box, chosen, fault, within)"
 AHEAD = "(works, box, chosen, fault, ahead)"
 FUNCTIONS = {
@@ -35,7 +39,7 @@ FUNCTIONS = {
     },
     "watchedworks.boxes": {"seen": "(works, box, chosen, post, run)"},
     "watchedworks.keeping": {
-        "keeps": "(works, box, chosen)", "conflict": "(works, box, chosen)", "keep_paper": "(works, box, chosen)",
+        "keeps": CHOSEN, "conflict": CHOSEN, "keep_paper": CHOSEN,
         "is_conflict": "(works, box, chosen, thing)", "is_keep_paper": "(works, box, chosen, thing)",
     },
     "watchedworks.telling": {
@@ -48,6 +52,21 @@ FUNCTIONS = {
         "is_unwarned": "(works, box, chosen, fault, ahead, thing)",
         "is_warn_paper": "(works, box, chosen, fault, ahead, thing)", "doomed": "(works, fault)",
     },
+    "watchedworks.hiding": {
+        "hidden": SECRET, "betrayal": SECRET, "hide_paper": SECRET,
+        "is_betrayal": "(works, box, chosen, secret, thing, *, joint=False)",
+        "is_hide_paper": "(works, box, chosen, secret, thing, *, joint=False)",
+        "estimates": "(works, box, chosen, reader)", "estimate_behind": "(works, box, chosen, reader, sights)",
+    },
+    "watchedworks.surely": {
+        "surely": QUESTION, "sure_paper": QUESTION, "escape": QUESTION,
+        "is_sure_paper": "(works, thing, *, seen=(), wanted)", "is_escape": "(works, thing, *, seen=(), wanted)",
+    },
+    "watchedworks.wishes": {
+        "is_wish": "(works, thing)", "fulfils": WISH, "paper_of": WISH, "against": WISH,
+        "is_paper_of": "(works, box, chosen, wish, thing)", "is_against": "(works, box, chosen, wish, thing)",
+    },
+    "watchedworks.wordings": {"worded": "(wish)", "read_wish": "(text)"},
 }
 
 

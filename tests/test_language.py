@@ -24,6 +24,7 @@ BARRED_WORDS = set(
 )
 BARRED_NAMES = set("register mro elements open input law version_info with_traceback add_note".split())
 BARRED_NODES = (ast.Global, ast.AsyncFunctionDef, ast.AsyncFor, ast.AsyncWith, ast.Await, ast.Div)
+CALLED_PARAMETERS = ("stepping", "deed")
 EATERS = ("any", "all", "min", "max", "sum", "sorted")
 
 
@@ -147,6 +148,9 @@ class Language(unittest.TestCase):
         for path, tree in trees():
             own = {node.name for node in ast.walk(tree) if isinstance(node, (ast.FunctionDef, ast.ClassDef))}
             own |= {name.name for node in tree.body if isinstance(node, ast.ImportFrom) for name in node.names}
+            for node in ast.walk(tree):
+                if isinstance(node, ast.FunctionDef):
+                    own |= {argument.arg for argument in node.args.args if argument.arg in CALLED_PARAMETERS}
             for node in ast.walk(tree):
                 if isinstance(node, ast.Call) and isinstance(node.func, ast.Name):
                     self.assertIn(node.func.id, own | BUILTINS, f"{path}:{node.lineno}")

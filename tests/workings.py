@@ -127,3 +127,29 @@ def steps_behind(works, box, chosen, counting, fault_words, place):
 def none_first(triple):
     """A key by which triples ascend with None as less than every standing."""
     return tuple((one is not None, one) for one in triple)
+
+
+def shown_up_to(works, box, chosen, reader, most, most_sights):
+    """Where kept runs of at most so many moves, that show no more sights, end: pairs of an end and the sights."""
+    shown = {word: sight(box, chosen, reader, word) for word in works.words}
+    pairs = layer = {(start_of(works), ())}
+    for _ in range(most):
+        longer = {
+            (behind, sights if shown[word] is None else (*sights, shown[word]))
+            for standing, sights in layer for word, behind in works.kept_moves(standing)
+        }
+        layer = {pair for pair in longer if len(pair[1]) <= most_sights} - pairs
+        pairs = pairs | layer
+    return pairs
+
+
+def all_estimates(works, box, chosen, reader):
+    """The estimates behind kept runs, as frozensets."""
+    shown = {sight(box, chosen, reader, word) for word in works.words} - {None}
+    met, waiting = set(), [unseen(works, box, chosen, reader, {start_of(works)})]
+    while waiting:
+        standings = waiting.pop()
+        if standings and standings not in met:
+            met.add(standings)
+            waiting += [behind_sight(works, box, chosen, reader, standings, one) for one in shown]
+    return met

@@ -1,11 +1,11 @@
 """Boxes: the instruments from which sets are chosen, and what posts see and hold by a set."""
 
-from watchedworks.errors import BadInstrument, BadName, BadPost
+from watchedworks.errors import BadInstrument, BadName
 from watchedworks.instruments import check_name, check_post, is_instrument
 from watchedworks.kinds import is_name, is_row_of
 from watchedworks.runs import check_run
 from watchedworks.sets import check_chosen, locks_at, sensors_at
-from watchedworks.sights import is_reader, sights_of_moves, word_sights
+from watchedworks.sights import check_reader, sights_of_moves, word_sights
 
 MOST_INSTRUMENTS = 6
 
@@ -68,8 +68,7 @@ class Box:
 
 def seen(works, box, chosen, post, run):
     check_chosen(box, chosen)
-    if not is_reader(post):
-        raise BadPost(post)
+    check_reader(post)
     check_run(works, run)
     return sights_of_moves(word_sights(works, box, chosen, post), run)
 

@@ -16,8 +16,13 @@ def check_fault(works, fault):
 
 
 def check_count(count):
-    if not is_index(count, MOST_COUNT + 1):
+    if not is_count(count):
         raise BadCount(count)
+
+
+def is_count(thing):
+    """Whether a thing is a number of moves that can be asked for."""
+    return is_index(thing, MOST_COUNT + 1)
 
 
 def check_question(works, box, chosen, fault, count):

@@ -4,8 +4,9 @@ from watchedworks.faultruns import are_clean_others, check_fault, check_question
 from watchedworks.kinds import is_integer, is_tuple_of
 from watchedworks.outlook import Outlook
 from watchedworks.runs import end_of_moves, is_kept_run
+from watchedworks.searches import steps_to
 from watchedworks.sets import check_chosen
-from watchedworks.triples import met_plain, moves_to, runs_by, steps_from
+from watchedworks.triples import met_plain, runs_by, steps_from
 
 
 def doomed(works, fault):
@@ -40,7 +41,7 @@ def unwarned(works, box, chosen, fault, ahead):
     triple = unwarned_triple(met, outlook, ahead)
     if triple is None:
         return None
-    run, first, second = runs_by(moves_to(met, triple))
+    run, first, second = runs_by(steps_to(met, triple))
     return (run + outlook.way_on(triple[0], ahead), len(run), net.others(first, second))
 
 

@@ -1,12 +1,11 @@
 """Guards: what the posts do with the instruments of a set."""
 
-from watchedworks.errors import BadSights
 from watchedworks.estimates import Reading
 from watchedworks.instruments import check_post
 from watchedworks.keptworks import kept_words_of
 from watchedworks.runs import check_run
 from watchedworks.sets import check_chosen
-from watchedworks.sights import word_sights
+from watchedworks.sights import check_sights, word_sights
 
 
 class Guard:
@@ -43,8 +42,3 @@ class Guard:
     def _is_needless(self, word, standings):
         """Whether the word leads on by a kept move from none of these standings."""
         return not any([word in self._kept_words[standing] for standing in standings])
-
-
-def check_sights(sights):
-    if not isinstance(sights, tuple):
-        raise BadSights(sights)

@@ -3,9 +3,10 @@
 from watchedworks.keptworks import barred_words_of, kept_words_of
 from watchedworks.kinds import is_tuple_of
 from watchedworks.runs import end_of_moves, is_kept_run
+from watchedworks.searches import steps_to
 from watchedworks.sets import check_chosen, posts_with_locks
 from watchedworks.sights import are_alike, word_sights
-from watchedworks.triples import Net, met_plain, moves_to, runs_by, steps_from
+from watchedworks.triples import Net, met_plain, runs_by, steps_from
 
 
 def keeps(works, box, chosen):
@@ -19,7 +20,7 @@ def conflict(works, box, chosen):
     for triple in met:
         word = threats.word_at(triple)
         if word is not None:
-            run, first, second = runs_by(moves_to(met, triple))
+            run, first, second = runs_by(steps_to(met, triple))
             others = (first if threats.can_hold(0, word) else None, second if threats.can_hold(1, word) else None)
             return (word, run, others)
     return None

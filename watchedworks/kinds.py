@@ -1,4 +1,4 @@
-"""What an integer, a row, a name, a state, an index and a post are.
+"""What an integer, a flag, a row, a name, a state, an index and a post are.
 
 The things that are asked about may be of any kind: nothing is compared or looked up ahead of a check of its kind.
 """
@@ -9,6 +9,10 @@ GREATEST_STATE = 99
 
 def is_integer(thing):
     return isinstance(thing, int) and not isinstance(thing, bool)
+
+
+def is_flag(thing):
+    return isinstance(thing, bool)
 
 
 def is_row(thing):

@@ -1,5 +1,6 @@
 """What a reader, who is a post or sees with both posts, sees of words and of runs."""
 
+from watchedworks.errors import BadPost, BadSights
 from watchedworks.kinds import is_post
 
 BOTH = "both"
@@ -7,6 +8,16 @@ BOTH = "both"
 
 def is_reader(thing):
     return is_post(thing) or isinstance(thing, str) and thing == BOTH
+
+
+def check_reader(reader):
+    if not is_reader(reader):
+        raise BadPost(reader)
+
+
+def check_sights(sights):
+    if not isinstance(sights, tuple):
+        raise BadSights(sights)
 
 
 def word_sights(works, box, chosen, reader):

@@ -4,8 +4,9 @@ from watchedworks.countdown import ENDLESS, countdown
 from watchedworks.faultruns import are_clean_others, check_fault, check_question, fault_net, fault_words, first_of_words
 from watchedworks.kinds import is_integer, is_tuple_of
 from watchedworks.runs import is_kept_run
+from watchedworks.searches import steps_to
 from watchedworks.sets import check_chosen
-from watchedworks.triples import first_faulty, met_faulty, met_plain, moves_to, own_steps_from, runs_by, steps_from
+from watchedworks.triples import first_faulty, met_faulty, met_plain, own_steps_from, runs_by, steps_from
 
 
 def late(works, box, chosen, fault):
@@ -114,7 +115,7 @@ class Unknown:
         """The moves of steps to a triple of a faulty run of this age, where nobody knows at this age."""
         triple = [one for one in self._begun if self._numbers[one] >= age][0]
         begun_at, moves = self._begun[triple]
-        found = moves_to(self._plain, begun_at) + [moves]
+        found = steps_to(self._plain, begun_at) + [moves]
         for _ in range(age):
             leg, triple = self._leg(triple)
             found.extend(leg)
@@ -132,7 +133,7 @@ class Unknown:
             for place in layer:
                 for behind, moves in own_steps_from(self._net, place):
                     if self._numbers[behind] >= self._numbers[triple] - 1:
-                        return (moves_to(met, place) + [moves], behind)
+                        return (steps_to(met, place) + [moves], behind)
                 for behind, moves in self._net.post_steps(place):
                     if behind not in met:
                         met[behind] = (place, moves)

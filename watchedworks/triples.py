@@ -1,8 +1,8 @@
 """Triples: a run of the works, followed side by side with the runs that the posts hold possible."""
 
-from watchedworks.errors import TooMany
 from watchedworks.keptworks import kept_moves_of, start_of
 from watchedworks.kinds import is_states, is_tuple_of
+from watchedworks.searches import met_from
 from watchedworks.sights import word_sights
 
 MOST_TRIPLES = 3000
@@ -102,7 +102,7 @@ def free_moves(moves, sights):
 
 def met_plain(net):
     """The triples that are met without own steps with words of the fault, each with the step that led there first."""
-    return met_from(net, {net.first: None}, False, MOST_TRIPLES)
+    return met_from({net.first: None}, lambda triple: steps_from(net, triple, False), MOST_TRIPLES)
 
 
 def first_faulty(net, plain):
@@ -116,23 +116,7 @@ def first_faulty(net, plain):
 
 def met_faulty(net, plain, begun):
     """The triples that are met behind own steps with words of the fault; some of them may be met plain, too."""
-    return met_from(net, begun, True, MOST_TRIPLES - len(plain))
-
-
-def met_from(net, begun, with_fault, limit):
-    met = {triple: begun[triple] for triple in begun}
-    layer = list(begun)
-    while layer:
-        found = []
-        for triple in layer:
-            for behind, moves in steps_from(net, triple, with_fault):
-                if behind not in met:
-                    met[behind] = (triple, moves)
-                    found.append(behind)
-            if len(met) > limit:
-                raise TooMany(MOST_TRIPLES)
-        layer = found
-    return met
+    return met_from(begun, lambda triple: steps_from(net, triple, True), MOST_TRIPLES, len(plain))
 
 
 def steps_from(net, triple, with_fault):
@@ -142,15 +126,6 @@ def steps_from(net, triple, with_fault):
 
 def own_steps_from(net, triple):
     return net.plain_steps(triple) + net.fault_steps(triple)
-
-
-def moves_to(met, triple):
-    """The moves of the steps that led to a triple, in their order."""
-    found = []
-    while met[triple] is not None:
-        triple, moves = met[triple]
-        found.append(moves)
-    return found[::-1]
 
 
 def runs_by(moves):

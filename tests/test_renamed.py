@@ -1,0 +1,187 @@
+"""[61] Works whose words are renamed, together with those of the instruments, the wishes and the runs."""
+
+import random
+import unittest
+
+from tests import workings
+from tests.chance import some_box, some_set, some_whole_parts, some_wish
+from watchedworks.boxes import Box, seen
+from watchedworks.foretelling import doomed, lead, warn_paper, warned
+from watchedworks.guards import Guard
+from watchedworks.hiding import estimate_behind, estimates, hidden, hide_paper
+from watchedworks.instruments import Lock, Sensor
+from watchedworks.keeping import keep_paper, keeps
+from watchedworks.runs import is_kept_run, is_run
+from watchedworks.surely import sure_paper, surely
+from watchedworks.telling import late, tell_paper, told
+from watchedworks.wishes import against, fulfils, is_against, is_paper_of, is_wish, paper_of
+from watchedworks.works import Works
+
+READERS = (0, 1, "both")
+
+
+def some_names(chance, words):
+    """New names for these words; some of them change places."""
+    new = chance.sample([*words, "aa", "mm", "zz", "q", "k"], len(words))
+    return dict(zip(words, new))
+
+
+def renamed_box(box, names):
+    instruments = []
+    for one in [box[name] for name in box.names()]:
+        if isinstance(one, Sensor):
+            sights = {names[word]: sight for word, sight in one.sights.items()}
+            instruments.append(Sensor(one.name, one.post, sights, one.cost))
+        else:
+            instruments.append(Lock(one.name, one.post, [names[word] for word in one.words], one.cost))
+    return Box(instruments)
+
+
+def renamed_wish(wish, names):
+    if wish[0] != "sure":
+        return wish
+    return (wish[0], *[tuple(sorted(names[word] for word in row)) for row in wish[1:]])
+
+
+def renamed_run(run, names):
+    return tuple((names[word], standing) for word, standing in run)
+
+
+def renamed_thing(wish, thing, names):
+    """What is against a wish, with its words renamed."""
+    def runs(row):
+        return tuple(None if run is None else renamed_run(run, names) for run in row)
+
+    if wish[0] == "kept":
+        word, run, others = thing
+        return (names[word], renamed_run(run, names), runs(others))
+    if wish[0] == "told":
+        return (renamed_run(thing[0], names), runs(thing[1]))
+    if wish[0] == "warned":
+        return (renamed_run(thing[0], names), thing[1], runs(thing[2]))
+    if wish[0] == "hidden":
+        return (thing[0], renamed_run(thing[1], names))
+    return runs(thing)
+
+
+def renamed_paper(wish, paper, names):
+    """A paper of a wish; just in that of a sure wish there are flags, one for each seen word, ascending."""
+    if wish[0] != "sure":
+        return paper
+    order = sorted(wish[1], key=lambda word: names[word])
+
+    def marked(one):
+        return (one[0], tuple(one[1][wish[1].index(word)] for word in order))
+
+    return ([marked(one) for one in paper[0]], {marked(one): rank for one, rank in paper[1].items()})
+
+
+def cases(seed, number):
+    """Works, boxes and sets, the same with other words, and the names of these."""
+    chance = random.Random(seed)
+    for _ in range(number):
+        works = Works(**some_whole_parts(chance))
+        box = some_box(chance, works, 6)
+        names = some_names(chance, [*works.words, "other"])
+        other = works.renamed({word: names[word] for word in works.words})
+        chosen = chance.choice([some_set(chance, box), box.names()])
+        yield chance, (works, box, chosen), (other, renamed_box(box, names), chosen), names
+
+
+class Renamed(unittest.TestCase):
+    def test_standings_moves_and_runs(self):
+        for chance, (works, _, _), (other, _, _), names in cases(611, 40):
+            self.assertEqual(works.standings(), other.standings())
+            self.assertEqual(works.kept(), other.kept())
+            for standing in works.standings():
+                self.assertEqual(sorted(renamed_run(works.moves(standing), names)), other.moves(standing))
+                self.assertEqual(sorted(renamed_run(works.kept_moves(standing), names)), other.kept_moves(standing))
+            for word in works.words:
+                self.assertEqual(works.fault_of(word), other.fault_of(names[word]))
+            runs = workings.runs_up_to(works, 3, works.moves)
+            for run in chance.sample(runs, min(len(runs), 20)):
+                self.assertIs(is_run(other, renamed_run(run, names)), True)
+                self.assertIs(is_kept_run(works, run), is_kept_run(other, renamed_run(run, names)))
+
+    def test_sights_and_guards(self):
+        for chance, (works, box, chosen), (other, other_box, _), names in cases(612, 40):
+            self.assertEqual(box.price(chosen), other_box.price(chosen))
+            one, two = Guard(works, box, chosen), Guard(other, other_box, chosen)
+            runs = workings.runs_up_to(works, 3, works.moves)
+            for run in chance.sample(runs, min(len(runs), 20)):
+                again = renamed_run(run, names)
+                self.assertEqual(one.stopped(run), two.stopped(again))
+                for reader in READERS:
+                    sights = seen(works, box, chosen, reader, run)
+                    self.assertEqual(sights, seen(other, other_box, chosen, reader, again))
+                    self.assertEqual(
+                        estimate_behind(works, box, chosen, reader, sights),
+                        estimate_behind(other, other_box, chosen, reader, sights),
+                    )
+                    if reader != "both":
+                        self.assertEqual(one.estimate(reader, sights), two.estimate(reader, sights))
+                        held = sorted(names[word] for word in one.held(reader, sights))
+                        self.assertEqual(held, two.held(reader, sights))
+
+    def test_keeping_telling_and_foretelling(self):
+        for _, one, other, _ in cases(613, 80):
+            self.assertEqual(keeps(*one), keeps(*other))
+            self.assertEqual(keep_paper(*one), keep_paper(*other))
+            for fault in one[0].faults:
+                self.assertEqual(doomed(one[0], fault), doomed(other[0], fault))
+                for call in (late, lead):
+                    self.assertEqual(call(*one, fault), call(*other, fault))
+                for number in (0, 1, 3):
+                    for call in (told, warned, warn_paper):
+                        self.assertEqual(call(*one, fault, number), call(*other, fault, number))
+                    papers = [tell_paper(*asked, fault, number) for asked in (one, other)]
+                    if papers[0] is None:
+                        self.assertIsNone(papers[1])
+                    else:
+                        self.assertEqual(papers[0][0], papers[1][0])
+                        self.assertEqual(list(papers[0][1]), list(papers[1][1]))
+
+    def test_hiding(self):
+        for _, one, other, _ in cases(614, 80):
+            for reader in READERS:
+                self.assertEqual(estimates(*one, reader), estimates(*other, reader))
+            for secret in one[0].secrets:
+                for joint in (False, True):
+                    for call in (hidden, hide_paper):
+                        self.assertEqual(call(*one, secret, joint=joint), call(*other, secret, joint=joint))
+
+    def test_surely(self):
+        for chance, (works, _, _), (other, _, _), names in cases(615, 150):
+            words = list(names)
+            seen_words = chance.sample(words, min(len(words), chance.randrange(3)))
+            wanted = chance.sample(words, min(len(words), chance.randrange(4)))
+            again = {"seen": [names[word] for word in seen_words], "wanted": [names[word] for word in wanted]}
+            self.assertEqual(surely(works, seen=seen_words, wanted=wanted), surely(other, **again))
+            paper = sure_paper(works, seen=seen_words, wanted=wanted)
+            if paper is not None:
+                wish = ("sure", tuple(sorted(seen_words)), ())
+                expected, found = renamed_paper(wish, paper, names), sure_paper(other, **again)
+                self.assertEqual(sorted(expected[0]), found[0])
+                self.assertEqual(sorted(expected[1]), list(found[1]))
+
+    def test_wishes_with_papers_and_things(self):
+        """What is right of one is, renamed, right of the other."""
+        told_of = set()
+        for chance, one, other, names in cases(616, 150):
+            wish = some_wish(chance, one[0])
+            again = renamed_wish(wish, names)
+            self.assertIs(is_wish(other[0], again), True)
+            flag = fulfils(*one, wish)
+            told_of.add((wish[0], flag))
+            self.assertIs(fulfils(*other, again), flag)
+            if flag:
+                paper = renamed_paper(wish, paper_of(*one, wish), names)
+                self.assertIs(is_paper_of(*other, again, paper), True)
+            else:
+                thing = renamed_thing(wish, against(*one, wish), names)
+                self.assertIs(is_against(*other, again, thing), True)
+        self.assertEqual(len(told_of), 10)
+
+
+if __name__ == "__main__":
+    unittest.main()
