@@ -4,6 +4,7 @@ from watchedworks.boxes import Box
 from watchedworks.errors import WorksError
 from watchedworks.hands import Hand
 from watchedworks.instruments import Lock, Sensor
+from watchedworks.wishes import fulfils
 from watchedworks.works import Works
 
 WORDS = [["abcd"], ["abcde"], ["abc", "cde"], ["abx", "cdx"], ["abc", "de"], ["ab", "cx", "dx"], ["ax", "bxy", "cy"]]
@@ -130,3 +131,16 @@ def some_wish(chance, works):
     words = [*works.words, "other"]
     seen, wanted = [chance.sample(words, min(len(words), chance.choice([0, 1, 1, 2]))) for _ in range(2)]
     return (form, tuple(sorted(seen)), tuple(sorted(wanted)))
+
+
+def some_wishes(chance, works, box, most=4):
+    """A row of wishes, most of which are fulfilled by the empty or by the whole set."""
+    rows = []
+    for _ in range(chance.randrange(1, most + 1)):
+        wish = some_wish(chance, works)
+        for _ in range(4):
+            if any(fulfils(works, box, chosen, wish) for chosen in ([], box.names())):
+                break
+            wish = some_wish(chance, works)
+        rows.append(wish)
+    return chance.choice([list, tuple])(rows)

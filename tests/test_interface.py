@@ -24,12 +24,19 @@ CLASSES = {
          "holds"], [],
     )},
     "watchedworks.guards": {"Guard": (["__init__", "estimate", "held", "lets", "stopped"], [])},
+    "watchedworks.desk": {"Desk": (
+        ["__init__", "put", "take", "choose", "wish", "forget", "undo", "wishes", "fulfilled", "is_good", "price",
+         "lacks", "better", "trial", "trying"],
+        ["works", "box", "chosen"],
+    )},
 }
 
 CHOSEN = "(works, box, chosen)"
 SECRET = "(works, box, chosen, secret, *, joint=False)"
 QUESTION = "(works, *, seen=(), wanted)"
 WISH = "(works, box, chosen, wish)"
+WISHES = "(works, box, wishes)"
+OF_SET = "(works, box, wishes, chosen)"
 ASKED = "(works, box, chosen, fault, within)"
 AHEAD = "(works, box, chosen, fault, ahead)"
 FUNCTIONS = {
@@ -67,6 +74,14 @@ FUNCTIONS = {
         "is_paper_of": "(works, box, chosen, wish, thing)", "is_against": "(works, box, chosen, wish, thing)",
     },
     "watchedworks.wordings": {"worded": "(wish)", "read_wish": "(text)"},
+    "watchedworks.goodsets": {
+        "is_good": OF_SET, "good_sets": WISHES, "least_good": WISHES, "greatest_good": WISHES, "robust_sets": WISHES,
+        "least_robust": WISHES, "cheapest": WISHES, "why_not": OF_SET, "spare": OF_SET,
+    },
+    "watchedworks.verdicts": {
+        "verdict": WISHES, "is_verdict": "(works, box, wishes, thing)", "by_verdict": "(box, thing, chosen)",
+    },
+    "watchedworks.texts": {"written": "(works, box)", "read_text": "(text)"},
 }
 
 
@@ -95,6 +110,7 @@ class Interface(unittest.TestCase):
             ("watchedworks.instruments", "Lock"): "(name, post, words, cost)",
             ("watchedworks.boxes", "Box"): "(instruments)",
             ("watchedworks.guards", "Guard"): "(works, box, chosen)",
+            ("watchedworks.desk", "Desk"): "(works, box)",
         }
         for (place, name), arguments in expected.items():
             found = getattr(importlib.import_module(place), name)
@@ -114,6 +130,12 @@ class Interface(unittest.TestCase):
             ("guards", "Guard"): {
                 "estimate": "(self, post, sights)", "held": "(self, post, sights)", "lets": "(self, run)",
                 "stopped": "(self, run)",
+            },
+            ("desk", "Desk"): {
+                "put": "(self, name)", "take": "(self, name)", "choose": "(self, chosen)", "wish": "(self, wish)",
+                "forget": "(self, at)", "undo": "(self)", "wishes": "(self)", "fulfilled": "(self)",
+                "is_good": "(self)", "price": "(self)", "lacks": "(self)", "better": "(self)", "trial": "(self)",
+                "trying": "(self, deed)",
             },
         }
         for (place, name), methods in expected.items():

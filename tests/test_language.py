@@ -141,8 +141,11 @@ class Language(unittest.TestCase):
         for path, tree in trees():
             for node in tree.body:
                 self.assertIsInstance(node, allowed, f"{path}:{node.lineno}")
-                if isinstance(node, (ast.Assign, ast.Expr)):
-                    self.assertIsInstance(node.value, ast.Constant, f"{path}:{node.lineno}")
+                values = [node.value] if isinstance(node, (ast.Assign, ast.Expr)) else []
+                if values and isinstance(node.value, ast.Dict):
+                    values = [*node.value.keys, *node.value.values]
+                for value in values:
+                    self.assertIsInstance(value, ast.Constant, f"{path}:{node.lineno}")
 
     def test_names_that_are_called(self):
         for path, tree in trees():

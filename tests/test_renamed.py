@@ -4,9 +4,14 @@ import random
 import unittest
 
 from tests import workings
-from tests.chance import some_box, some_set, some_whole_parts, some_wish
+from tests.chance import some_box, some_set, some_whole_parts, some_wish, some_wishes
+from tests.judging import sets_of
 from watchedworks.boxes import Box, seen
+from watchedworks.desk import Desk
 from watchedworks.foretelling import doomed, lead, warn_paper, warned
+from watchedworks.goodsets import (
+    cheapest, good_sets, greatest_good, is_good, least_good, least_robust, robust_sets, spare,
+)
 from watchedworks.guards import Guard
 from watchedworks.hiding import estimate_behind, estimates, hidden, hide_paper
 from watchedworks.instruments import Lock, Sensor
@@ -14,6 +19,8 @@ from watchedworks.keeping import keep_paper, keeps
 from watchedworks.runs import is_kept_run, is_run
 from watchedworks.surely import sure_paper, surely
 from watchedworks.telling import late, tell_paper, told
+from watchedworks.texts import read_text, written
+from watchedworks.verdicts import by_verdict, is_verdict, verdict
 from watchedworks.wishes import against, fulfils, is_against, is_paper_of, is_wish, paper_of
 from watchedworks.works import Works
 
@@ -181,6 +188,60 @@ class Renamed(unittest.TestCase):
                 thing = renamed_thing(wish, against(*one, wish), names)
                 self.assertIs(is_against(*other, again, thing), True)
         self.assertEqual(len(told_of), 10)
+
+    def test_good_sets_and_verdicts(self):
+        good = 0
+        for chance, (works, box, _), (other, other_box, _), names in cases(617, 120):
+            if len(works.kept()) > 6 or len(box) > 4:
+                continue
+            wishes = some_wishes(chance, works, box)
+            again = [renamed_wish(wish, names) for wish in wishes]
+            found = list(good_sets(works, box, wishes))
+            good += len(found)
+            self.assertEqual(found, list(good_sets(other, other_box, again)))
+            for call in (least_good, greatest_good, cheapest, robust_sets, least_robust):
+                self.assertEqual(call(works, box, wishes), call(other, other_box, again))
+            one, two = verdict(works, box, wishes), verdict(other, other_box, again)
+            self.assertEqual([[item[0] for item in rows] for rows in one], [[item[0] for item in rows] for rows in two])
+            for at in (1, 3):
+                self.assertEqual([item[1] for item in one[at]], [item[1] for item in two[at]])
+            self.assertIs(is_verdict(other, other_box, again, self.renamed_verdict(wishes, one, names)), True)
+            for chosen in sets_of(box):
+                self.assertIs(is_good(works, box, wishes, chosen), is_good(other, other_box, again, chosen))
+                self.assertIs(by_verdict(box, one, chosen), by_verdict(other_box, two, chosen))
+                if chosen in found:
+                    self.assertEqual(spare(works, box, wishes, chosen), spare(other, other_box, again, chosen))
+        self.assertGreater(good, 100)
+
+    def renamed_verdict(self, wishes, found, names):
+        def proof(item, rows):
+            return (item[0], tuple(renamed_paper(wish, paper, names) for wish, paper in zip(rows, item[1])))
+
+        def lack(item):
+            return (item[0], item[1], renamed_thing(wishes[item[1]], item[2], names))
+
+        upward = [wish for wish in wishes if wish[0] != "hidden"]
+        downward = [wish for wish in wishes if wish[0] == "hidden"]
+        uppers, falls, lowers, leaks = found
+        return (
+            [proof(item, upward) for item in uppers], [lack(item) for item in falls],
+            [proof(item, downward) for item in lowers], [lack(item) for item in leaks],
+        )
+
+    def test_desks_and_texts(self):
+        for chance, (works, box, chosen), (other, other_box, _), names in cases(618, 40):
+            one, two = Desk(works, box), Desk(other, other_box)
+            wishes = some_wishes(chance, works, box)
+            for wish in wishes:
+                if wish not in one.wishes():
+                    one.wish(wish)
+                    two.wish(renamed_wish(wish, names))
+            one.choose(chosen)
+            two.choose(chosen)
+            self.assertEqual(one.fulfilled(), two.fulfilled())
+            self.assertEqual((one.is_good(), one.price(), one.better()), (two.is_good(), two.price(), two.better()))
+            self.assertEqual(one.lacks() and one.lacks()[0], two.lacks() and two.lacks()[0])
+            self.assertEqual(read_text(written(other, other_box)), (other, other_box))
 
 
 if __name__ == "__main__":

@@ -114,6 +114,14 @@ class Works:
             raise BadWord(word)
         return self._faults.get(word)
 
+    def bar_patterns(self):
+        """The bars in the order given."""
+        return patterns_of(self._bars)
+
+    def secret_patterns(self, name):
+        """The patterns of one of the secrets in the order given."""
+        return patterns_of(self._secrets[name])
+
     def renamed(self, names):
         check_new_words(names, self._words)
         return Works(
