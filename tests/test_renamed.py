@@ -1,10 +1,13 @@
-"""[61] Works whose words are renamed, together with those of the instruments, the wishes and the runs."""
+"""[61] Works whose words are renamed, together with those of the instruments, the wishes and the runs.
+
+And what equal works and boxes tell of themselves; of the other Parts their own tests ask this.
+"""
 
 import random
 import unittest
 
 from tests import workings
-from tests.chance import some_box, some_set, some_whole_parts, some_wish, some_wishes
+from tests.chance import some_box, some_set, some_whole_parts, some_wish, some_wishes, turned, turned_box, turned_set
 from tests.judging import sets_of
 from watchedworks.boxes import Box, seen
 from watchedworks.desk import Desk
@@ -16,7 +19,7 @@ from watchedworks.guards import Guard
 from watchedworks.hiding import estimate_behind, estimates, hidden, hide_paper
 from watchedworks.instruments import Lock, Sensor
 from watchedworks.keeping import keep_paper, keeps
-from watchedworks.runs import is_kept_run, is_run
+from watchedworks.runs import end_of, is_kept_run, is_run, way_to, words_of
 from watchedworks.surely import sure_paper, surely
 from watchedworks.telling import late, tell_paper, told
 from watchedworks.texts import read_text, written
@@ -242,6 +245,50 @@ class Renamed(unittest.TestCase):
             self.assertEqual((one.is_good(), one.price(), one.better()), (two.is_good(), two.price(), two.better()))
             self.assertEqual(one.lacks() and one.lacks()[0], two.lacks() and two.lacks()[0])
             self.assertEqual(read_text(written(other, other_box)), (other, other_box))
+
+
+class Turned(unittest.TestCase):
+    """Equal works and boxes, with all in another order."""
+
+    def test_works_and_runs(self):
+        chance = random.Random(619)
+        for _ in range(60):
+            parts = some_whole_parts(chance)
+            one, other = Works(**parts), turned(chance, parts)
+            self.assertEqual(one, other)
+            for told_of in (Works.standings, Works.kept):
+                self.assertEqual(told_of(one), told_of(other))
+            for name in ("words", "faults", "secrets", "diligent"):
+                self.assertEqual(getattr(one, name), getattr(other, name))
+            for standing in one.standings():
+                for told_of in (Works.moves, Works.kept_moves, Works.is_barred):
+                    self.assertEqual(told_of(one, standing), told_of(other, standing))
+                for secret in one.secrets:
+                    self.assertIs(one.is_secret(secret, standing), other.is_secret(secret, standing))
+            for standing in one.kept():
+                run = way_to(one, standing)
+                self.assertEqual(run, way_to(other, standing))
+                self.assertEqual((end_of(other, run), words_of(other, run)), (standing, words_of(one, run)))
+
+    def test_boxes_and_sights(self):
+        chance = random.Random(620)
+        for _ in range(60):
+            parts = some_whole_parts(chance)
+            works, again = Works(**parts), turned(chance, parts)
+            box = some_box(chance, works, 6)
+            other, chosen = turned_box(chance, box), some_set(chance, box)
+            turned_chosen = turned_set(chance, chosen)
+            self.assertEqual((box, box.names(), len(box)), (other, other.names(), len(other)))
+            self.assertEqual(box.price(chosen), other.price(turned_chosen))
+            for post in (0, 1):
+                self.assertEqual(box.holds(chosen, post), other.holds(turned_chosen, post))
+            for word in works.words:
+                self.assertEqual(box.joint(chosen, word), other.joint(turned_chosen, word))
+            for run in workings.runs_up_to(works, 2, works.moves)[:30]:
+                for reader in READERS:
+                    self.assertEqual(
+                        seen(works, box, chosen, reader, run), seen(again, other, turned_chosen, reader, run),
+                    )
 
 
 if __name__ == "__main__":

@@ -3,7 +3,9 @@
 import unittest
 
 from watchedworks.boxes import Box
+from watchedworks.desk import Desk
 from watchedworks.errors import BadStart, TooMany, WorksError
+from watchedworks.goodsets import good_sets
 from watchedworks.guards import Guard
 from watchedworks.hands import Hand
 from watchedworks.instruments import Lock, Sensor
@@ -40,6 +42,7 @@ def strange_things():
         nested(100, lambda thing: frozenset([thing])), [deep_row] * 3, (deep_tuple,) * 3,
         hand, works, WorksError(), TooMany(60), BadStart(hand), Hand, Works, sensor, lock, box,
         Guard(works, box, ["a"]), Box, Sensor, [box], (sensor, lock), [works, box], {"a": box},
+        Desk(works, box), Desk(works, box).trial(), [Desk(works, box)], good_sets(works, box, [("kept",)]), good_sets,
     ]
 
 
