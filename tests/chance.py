@@ -86,7 +86,8 @@ def turned(chance, parts):
         bars=tuple(chance.sample(parts["bars"] * 2, 2 * len(parts["bars"]))),
         faults=dict(chance.sample(sorted(parts["faults"].items()), len(parts["faults"]))),
         secrets={
-            name: chance.sample(patterns, len(patterns)) for name, patterns in reversed(parts.get("secrets", {}).items())
+            name: chance.sample(patterns, len(patterns))
+            for name, patterns in reversed(parts.get("secrets", {}).items())
         },
         diligent=chance.sample(parts.get("diligent", []), len(parts.get("diligent", []))),
     )

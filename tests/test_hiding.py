@@ -499,7 +499,7 @@ class Refused(Refusing):
         self.assertIs(is_hide_paper(exact, box, ["all"], "hot", papers), True)
 
     def test_also_where_a_betrayal_is_met_at_once(self):
-        """Post 0 knows the first hand's state at last, and the second post has too many estimates; or the start is it."""
+        """Post 0 knows the first hand's state at last, or all is secret; another reader has too many estimates."""
         for secrets in [{"hot": [{0: 0}, {0: 1}, {0: 2}, {0: 3}]}, {"hot": [{0: 2}]}]:
             exact, over, box = works_of_500(secrets=secrets), works_of_501(secrets), box_of_500()
             for chosen in [["first", "every"], ["all", "first"], ["all", "every"]]:

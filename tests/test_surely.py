@@ -380,7 +380,8 @@ class Judges(unittest.TestCase):
         stem, loop = escape(plant(), seen=["start"], wanted=["slip"])
         for thing in strange_things():
             rows = [
-                thing, (thing, ranks), (ahead, thing), [ahead, thing], (thing,) * 2, (thing,) * 3, (ahead, ranks, thing),
+                thing, (thing, ranks), (ahead, thing), [ahead, thing], (thing,) * 2, (thing,) * 3,
+                (ahead, ranks, thing),
                 ([*ahead, thing], ranks), ([*ahead, (thing, thing)], ranks), ([*ahead, ((0,), thing)], ranks),
                 ([*ahead, (thing, (False,))], ranks), ([*ahead, ((thing, thing), (False,))], ranks),
                 (ahead, {marked: (thing,) * 3}), (ahead, {marked: (thing,)}), (ahead, {marked: [0, thing]}),

@@ -33,21 +33,24 @@ lock valve 0 1 burst
 
 # One line of each kind at least, and of most kinds several.
 LINES = [
-    "hand 0", "step 0 a 1", "step 1 b 0", "hand 5", "step 5 a 6", "step 6 c 5", "hand 9", "step 9 d 9",
-    "bar 0=7", "bar 1=8 2=7", "fault a wear", "fault b tear", "secret hot 0=1", "secret hot 1=5 2=9", "secret low 2=1",
-    "diligent 0 2", "lock grip 1 1000 a", "lock hold 0 7 b c zz", "sensor ear 0 1 a=hum", "sensor eye 1 20 a=s b=s other=t",
+    "hand 0", "step 0 a 1", "step 1 b 0", "hand 5", "step 5 a 6", "step 6 c 5", "hand 9", "step 9 d 9", "bar 0=7",
+    "bar 1=8 2=7", "fault a wear", "fault b tear", "secret hot 0=1", "secret hot 1=5 2=9", "secret low 2=1",
+    "diligent 0 2", "lock grip 1 1000 a", "lock hold 0 7 b c zz", "sensor ear 0 1 a=hum",
+    "sensor eye 1 20 a=s b=s other=t",
 ]
 KINDS = ["hand", "bar", "fault", "secret", "diligent", "instrument"]
 
 WRONG = {
     "hand": [
-        "hand", "hand a", "hand -1", "hand 00", "hand 01", "hand 0 1", "hand +1", "hand 1000000", "hand 0x1", "hand 1_0",
-        "hand \u0661", "hand \u00b2", "hand 0.", "hand None", "hand 0=1", "Hand 0", "hands 0", "hand\u00a00",
+        "hand", "hand a", "hand -1", "hand 00", "hand 01", "hand 0 1", "hand +1", "hand 1000000", "hand 0x1",
+        "hand 1_0", "hand \u0661", "hand \u00b2", "hand 0.", "hand None", "hand 0=1", "Hand 0", "hands 0",
+        "hand\u00a00",
     ],
     "step": [
-        "step", "step 0", "step 0 a", "step 0 a 1 2", "step a 0 1", "step 0 1 a", "step 00 a 1", "step 0 a 01", "step 0 A 1",
-        "step 0 abcdefghijk 1", "step 0 a 1000000", "step 1000000 a 0", "step -1 a 1", "step 0 a -1", "step 0 a1 1",
-        "step 0  1", "step 0 \u00e9 1", "step 0 1 2", "step a a a", "steps 0 a 1", "step 0,a,1", "step \u0661 a 1",
+        "step", "step 0", "step 0 a", "step 0 a 1 2", "step a 0 1", "step 0 1 a", "step 00 a 1", "step 0 a 01",
+        "step 0 A 1", "step 0 abcdefghijk 1", "step 0 a 1000000", "step 1000000 a 0", "step -1 a 1", "step 0 a -1",
+        "step 0 a1 1", "step 0  1", "step 0 \u00e9 1", "step 0 1 2", "step a a a", "steps 0 a 1", "step 0,a,1",
+        "step \u0661 a 1",
     ],
     "bar": [
         "bar", "bar 0", "bar 0=", "bar =0", "bar =", "bar 0=1=2", "bar 0==1", "bar 0=1 0=2", "bar 0=1 0=1", "bar 00=1",
@@ -59,9 +62,10 @@ WRONG = {
         "fault abcdefghijk wear", "fault c=wear", "fault c -", "fault c We", "faults c wear", "fault c w\u00e9",
     ],
     "secret": [
-        "secret", "secret hot", "secret 0=1", "secret Hot 0=1", "secret hot 0", "secret hot 0=1 0=1", "secret hot 0=1 0=2",
-        "secret hot 00=1", "secret hot 0=a", "secret hot a=0", "secret hot hot 0=1", "secret abcdefghijk 0=1",
-        "secret hot 0=1000000", "secret hot 0=1=1", "secret 1 0=1", "secrets hot 0=1", "secret hot 0=1 low", "secret - 0=1",
+        "secret", "secret hot", "secret 0=1", "secret Hot 0=1", "secret hot 0", "secret hot 0=1 0=1",
+        "secret hot 0=1 0=2", "secret hot 00=1", "secret hot 0=a", "secret hot a=0", "secret hot hot 0=1",
+        "secret abcdefghijk 0=1", "secret hot 0=1000000", "secret hot 0=1=1", "secret 1 0=1", "secrets hot 0=1",
+        "secret hot 0=1 low", "secret - 0=1",
     ],
     "diligent": [
         "diligent", "diligent a", "diligent 0,1", "diligent -1", "diligent 00", "diligent 01", "diligent 0 1000000",
@@ -70,17 +74,18 @@ WRONG = {
     "sensor": [
         "sensor", "sensor nose", "sensor nose 0", "sensor nose 0 1", "sensor nose 0 1 b", "sensor nose 0 1 b=",
         "sensor nose 0 1 =b", "sensor nose 0 1 b=c=d", "sensor nose 0 1 b=c b=d", "sensor nose 0 1 b=c b=c",
-        "sensor Nose 0 1 b=c", "sensor nose b 1 b=c", "sensor nose 0 b b=c", "sensor nose 0 01 b=c", "sensor nose 00 1 b=c",
-        "sensor nose 0 1 b=1", "sensor nose 0 1 1=b", "sensor nose 0 1000000 b=c", "sensor nose 1000000 1 b=c",
-        "sensor nose 0 -1 b=c", "sensor nose 0 1 b=None c", "sensor nose 0 1 b=c,d=e", "sensor nose 0 1 B=c", "sensor 0 1 b=c",
-        "sensor abcdefghijk 0 1 b=c", "sensor nose 0 1 abcdefghijk=c", "sensor nose 0 1 b=abcdefghijk", "sensors nose 0 1 b=c",
-        "sensor nose 0 1 b=c c=d b=c",
+        "sensor Nose 0 1 b=c", "sensor nose b 1 b=c", "sensor nose 0 b b=c", "sensor nose 0 01 b=c",
+        "sensor nose 00 1 b=c", "sensor nose 0 1 b=1", "sensor nose 0 1 1=b", "sensor nose 0 1000000 b=c",
+        "sensor nose 1000000 1 b=c", "sensor nose 0 -1 b=c", "sensor nose 0 1 b=None c", "sensor nose 0 1 b=c,d=e",
+        "sensor nose 0 1 B=c", "sensor 0 1 b=c", "sensor abcdefghijk 0 1 b=c", "sensor nose 0 1 abcdefghijk=c",
+        "sensor nose 0 1 b=abcdefghijk", "sensors nose 0 1 b=c", "sensor nose 0 1 b=c c=d b=c",
     ],
     "lock": [
-        "lock", "lock bolt", "lock bolt 0", "lock bolt 0 1", "lock bolt 0 1 a a", "lock bolt 0 1 a b a", "lock bolt 0 1 a=b",
-        "lock Bolt 0 1 a", "lock bolt a 1 a", "lock bolt 0 a a", "lock bolt 0 01 a", "lock bolt 00 1 a", "lock bolt 0 1 A",
-        "lock bolt 0 1 1", "lock bolt 0 1000000 a", "lock bolt 1000000 1 a", "lock bolt 0 1 a,b", "lock bolt 0 1 abcdefghijk",
-        "lock abcdefghijk 0 1 a", "lock bolt -1 1 a", "lock 0 1 a", "locks bolt 0 1 a", "lock bolt 0 1 -",
+        "lock", "lock bolt", "lock bolt 0", "lock bolt 0 1", "lock bolt 0 1 a a", "lock bolt 0 1 a b a",
+        "lock bolt 0 1 a=b", "lock Bolt 0 1 a", "lock bolt a 1 a", "lock bolt 0 a a", "lock bolt 0 01 a",
+        "lock bolt 00 1 a", "lock bolt 0 1 A", "lock bolt 0 1 1", "lock bolt 0 1000000 a", "lock bolt 1000000 1 a",
+        "lock bolt 0 1 a,b", "lock bolt 0 1 abcdefghijk", "lock abcdefghijk 0 1 a", "lock bolt -1 1 a", "lock 0 1 a",
+        "locks bolt 0 1 a", "lock bolt 0 1 -",
     ],
 }
 
@@ -126,10 +131,10 @@ class Written(unittest.TestCase):
 
     def test_the_mill(self):
         self.assertEqual(written(mill(), Box([Lock("lock", 1, ["turn", "jam"], 1000)])), text_of([
-            "hand 1", "step 1 turn 2", "step 2 turn 1", "step 2 turn 3", "step 3 jam 4", "step 4 mend 1", "step 4 rest 4",
-            "hand 0", "step 0 lift 1", "step 1 turn 1", "step 1 turn 0", "bar 0=3", "bar 0=2 1=0", "fault jam wear",
-            "fault turn heat", "secret gate 1=1", "secret idle 0=1", "secret idle 0=4 1=1", "diligent 1",
-            "lock lock 1 1000 jam turn",
+            "hand 1", "step 1 turn 2", "step 2 turn 1", "step 2 turn 3", "step 3 jam 4", "step 4 mend 1",
+            "step 4 rest 4", "hand 0", "step 0 lift 1", "step 1 turn 1", "step 1 turn 0", "bar 0=3", "bar 0=2 1=0",
+            "fault jam wear", "fault turn heat", "secret gate 1=1", "secret idle 0=1", "secret idle 0=4 1=1",
+            "diligent 1", "lock lock 1 1000 jam turn",
         ]))
 
     def test_what_is_lacking_has_no_line(self):
@@ -199,7 +204,8 @@ class Read(Refusing):
         works, box = read_text(text_of(LINES))
         for _ in range(60):
             lines = []
-            for first, last in [(0, 1), (1, 3), (3, 4), (4, 6), (6, 7), (7, 8), (8, 10), (10, 12), (12, 15), (15, 16), (16, 20)]:
+            ends = [0, 1, 3, 4, 6, 7, 8, 10, 12, 15, 16, 20]
+            for first, last in zip(ends, ends[1:]):
                 lines += chance.sample(LINES[first:last], last - first)
             self.assertEqual(read_text(text_of(lines)), (works, box))
 
@@ -227,7 +233,9 @@ class Read(Refusing):
         ]))
 
     def test_words_that_are_also_kinds(self):
-        text = text_of(["hand 0", "step 0 step 0", "step 0 hand 0", "fault hand lock", "secret secret 0=4", "lock bar 0 1 step"])
+        text = text_of([
+            "hand 0", "step 0 step 0", "step 0 hand 0", "fault hand lock", "secret secret 0=4", "lock bar 0 1 step",
+        ])
         self.assertEqual(written(*read_text(text)), text)
 
     def test_two_readings(self):
@@ -245,7 +253,9 @@ class WrongTexts(Refusing):
                 self.refuses(BadText, -1, read_text, thing)
 
     def test_no_line_feed_at_the_end(self):
-        for text in ["a", "hand 0", PLANT[:-1], PLANT + " ", "\nhand 0", "\n" * 300 + "a", PLANT + "\r", "x\n" * 200 + "y"]:
+        for text in [
+            "a", "hand 0", PLANT[:-1], PLANT + " ", "\nhand 0", "\n" * 300 + "a", PLANT + "\r", "x\n" * 200 + "y",
+        ]:
             self.refuses(BadText, -1, read_text, text)
 
     def test_the_empty_text(self):
@@ -349,7 +359,9 @@ class WrongLines(Refusing):
 
     def test_of_several_wrong_lines_the_first(self):
         lines = list(LINES)
-        for at, wrong in [(18, "lock grip 1 1 a a"), (15, "diligent"), (11, "fault a tear"), (9, "bar 1=8 1=8"), (2, "step")]:
+        for at, wrong in [
+            (18, "lock grip 1 1 a a"), (15, "diligent"), (11, "fault a tear"), (9, "bar 1=8 1=8"), (2, "step"),
+        ]:
             lines[at] = wrong
             self.refuses(BadText, at + 1, read_text, text_of(lines))
 
@@ -403,7 +415,8 @@ class WrongThings(Refusing):
         words = ["w" + letter for letter in "abcdefghijk"]
         self.refuses(BadWords, words, read_text, self.changed((17, ["lock hold 1 1 " + " ".join(words)])))
         sights = " ".join(word + "=s" for word in words)
-        self.refuses(BadSights, {word: "s" for word in words}, read_text, self.changed((18, ["sensor ear 1 1 " + sights])))
+        text = self.changed((18, ["sensor ear 1 1 " + sights]))
+        self.refuses(BadSights, {word: "s" for word in words}, read_text, text)
         self.refuses(BadInstrument, -1, read_text, text_of(LINES[:16]))
         self.refuses(BadInstrument, 2, read_text, self.changed((18, ["sensor hold 0 1 a=hum"])))
         more = [f"lock {letter} 0 1 a" for letter in "abc"]

@@ -259,7 +259,8 @@ class Judges(unittest.TestCase):
         for wrong in [
             list(found), (tuple(uppers), falls, lowers, leaks), (uppers, falls, lowers, ()),
             ([list(uppers[0])], falls, lowers, leaks), ([(list(uppers[0][0]), uppers[0][1])], falls, lowers, leaks),
-            ([(uppers[0][0], list(uppers[0][1]))], falls, lowers, leaks), (uppers, [list(falls[0]), falls[1]], lowers, []),
+            ([(uppers[0][0], list(uppers[0][1]))], falls, lowers, leaks),
+            (uppers, [list(falls[0]), falls[1]], lowers, leaks),
             (uppers, falls, lowers), (*found, []), (uppers, falls, {}, leaks), (uppers, None, lowers, leaks),
         ]:
             self.assertIs(is_verdict(plant(), example_box(), WISHES, wrong), False)
@@ -281,7 +282,9 @@ class Refused(Refusing):
 
     def test_wishes(self):
         for works, box in [(plant(), example_box()), (works_of_3001(), box_of_3000())]:
-            for call in [lambda wishes: verdict(works, box, wishes), lambda wishes: is_verdict(works, box, wishes, None)]:
+            for call in [
+                lambda wishes: verdict(works, box, wishes), lambda wishes: is_verdict(works, box, wishes, None),
+            ]:
                 for thing in [*strange_things(), [], (), [("kept",)] * 7]:
                     at = 0 if isinstance(thing, (list, tuple)) and 1 <= len(thing) <= 6 else -1
                     self.refuses(BadWishes, at, call, thing)

@@ -117,7 +117,8 @@ class Forms(unittest.TestCase):
                 self.assertIs(is_wish(plant(), (thing, *wish[1:])), False)
                 self.assertIs(is_wish(plant(), (*wish, thing)), False)
                 if len(wish) > 1:
-                    self.assertIs(is_wish(plant(), (wish[0], thing, wish[2])), wish[0] == "sure" and thing in ((), ("a",)))
+                    expected = wish[0] == "sure" and thing in ((), ("a",))
+                    self.assertIs(is_wish(plant(), (wish[0], thing, wish[2])), expected)
                     expected = self.may_stand_last(wish[0], thing)
                     self.assertIs(is_wish(plant(), (wish[0], wish[1], thing)), expected)
 
