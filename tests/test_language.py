@@ -120,6 +120,30 @@ class Language(unittest.TestCase):
             own = [one.name for one in node.body if isinstance(one, ast.FunctionDef)]
             self.assertEqual("__getitem__" in own, "__iter__" in own, path)
 
+    def test_contexts_end_plainly(self):
+        """A context's end takes one attribute of its own to a name, and then gives attributes of its own to that."""
+        ends = [(path, node) for path, node in nodes(ast.FunctionDef) if node.name == "__exit__"]
+        for path, node in ends:
+            first, *rest = [ast.unparse(row) for row in node.body]
+            self.assertRegex(first, r"^[a-z]+ = self\._[a-z]+$", path)
+            for row in rest:
+                self.assertRegex(row, "^" + first.split(" ")[0] + r"\._[a-z]+ = self\._[a-z]+$", path)
+        for path, node in nodes(ast.With):
+            for item in node.items:
+                self.assertIsInstance(item.context_expr, ast.Call, path)
+
+    def test_generators_yield_in_loops_and_are_no_values(self):
+        made = [node for _, node in nodes(ast.FunctionDef) if any(isinstance(n, ast.Yield) for n in ast.walk(node))]
+        names = {node.name for node in made}
+        for node in made:
+            self.assertFalse(any(isinstance(n, (ast.Try, ast.With)) for n in ast.walk(node)), node.name)
+            yields = [n for n in ast.walk(node) if isinstance(n, ast.Yield)]
+            self.assertEqual(len(yields), sum(isinstance(n, ast.Expr) and n.value in yields for n in ast.walk(node)))
+        self.assertEqual(names, {"good_sets"})
+        for path, node in nodes(ast.Name):
+            self.assertNotIn(node.id, names, path)
+        self.assertEqual(nodes(ast.Try), [])
+
     def test_statements_and_expressions(self):
         for kind in BARRED_NODES:
             self.assertEqual([f"{path}:{node.lineno}" for path, node in nodes(ast.AST) if isinstance(node, kind)], [])
